@@ -1,0 +1,1 @@
+"""Sillwatch: a display server whose programs learn nothing but what they are given."""

@@ -1,0 +1,1 @@
+"""Messages between programs and the server, as octets."""
