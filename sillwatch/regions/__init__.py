@@ -1,0 +1,1 @@
+"""Regions: finite sets of unit squares of the plane."""

@@ -1,0 +1,1 @@
+"""What a program paints into and shows."""
