@@ -1,0 +1,1 @@
+"""Screens: what is painted on the outputs."""
