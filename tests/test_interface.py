@@ -20,6 +20,28 @@ FUNCTIONS = {
     ],
     "regions.steps": ["region_of(steps)"],
     "surfaces.pictures": ["clear_picture(width, height)"],
+    "surfaces.contents": [
+        "empty_content(number)", "laid_over(first, second)", "changed_content(content, change)",
+        "content_size(content)", "scale_fits(content)",
+    ],
+    "windows.frames": [
+        "inside_of(frame)", "frame_of(inside)", "put_into(area, frame)", "placed_frame(area, count, width, height)",
+        "can_be_caught(areas, frame)", "output_of(areas, frame)", "grown_frame(areas, frame, width, height)",
+        "restored_frame(frame, before)", "meets(area, frame)", "part_at(frame, x, y)",
+        "moved_frame(areas, frame, dx, dy)", "resized_frame(frame, part, dx, dy, least, largest)",
+    ],
+    "windows.positions": [
+        "place_axis(anchor, gravity, begin, length, size, offset, room, bits)", "place_popup(positioner, room)",
+    ],
+    "devices.scenes": [
+        "scene_of(stack, paintings, desks, views)", "covers_of(scene, areas)", "top_cover(covers, x, y)",
+        "hit_at(scene, paintings, x, y)",
+    ],
+    "screens.colours": ["over(colour, below)", "slot_colour(slot)"],
+    "screens.layers": ["same_layer(a, b)", "window_layers(placed, desk, painting, view)"],
+    "screens.painting": [
+        "composed(output, layers)", "repainted(output, pixels, layers, region)", "differing(before, after)",
+    ],
 }
 CLASSES = {
     "octets.messages Cutter()": ["feed(octets)"],
@@ -37,6 +59,31 @@ CLASSES = {
     "surfaces.buffers Buffers()": [
         "serve(request, other_pixels, reply)", "pixel_count()", "picture_of(number)", "region_of(number)",
     ],
+    "surfaces.contents Content(picture, turn, scale, hears, order, places)": [],
+    "surfaces.contents Change(attached, hearing, turn, scale, order, places, callbacks)": [],
+    "surfaces.painting Painting()": [
+        "serve(request, reply)", "take_callbacks()", "surfaces()", "content_of(surface)", "size_of(surface)",
+        "tree_of(surface)", "hears_at(surface, x, y)", "pixel_count()", "may_claim(surface, role)",
+        "claim(surface, role)", "release(surface)",
+    ],
+    "windows.stack Placed(slot, window, frame, hidden, maximized, before)": [],
+    "windows.stack Stack()": [
+        "placed_rows()", "find(slot, window)", "put(placed, top)", "take(slot, window)", "lift(slot, window)",
+        "own(slot)", "perform(slot, deed)",
+    ],
+    "windows.view View(areas, own_windows, focus, grant, kept)": [],
+    "windows.desk Desk()": [
+        "serve(request, painting, view, reply)", "committed(surfaces, painting, view, reply)",
+        "tell_frames(view, reply)", "dismiss_granted(reply)", "tell_close(window, reply)", "window_rows()",
+        "limits_of(window)", "popup_rows(window, view)",
+    ],
+    "devices.scenes Shown(surface, x, y, clip)": [],
+    "devices.scenes SceneWindow(slot, window, frame, plain, granted)": [],
+    "devices.memory Painted()": [
+        "paint(time, covers)", "disown(slot)", "scenes(time, guard)", "is_settled(covers, time, guard, x, y)",
+        "was_seen(covers, time, guard, x, y)",
+    ],
+    "screens.layers Layer(what, region, colour, x, y, content)": [],
     "errors Fault(number, code, words)": [],
     "errors BadKeymap(place, words)": [],
     "errors BadPolicy(line, column, words)": [],
@@ -83,6 +130,10 @@ class Interface(unittest.TestCase):
         cutter = module_of("octets.messages").Cutter
         for name in ["fault", "uncut"]:
             self.assertIsInstance(vars(cutter)[name], property)
+
+    def test_buffers_of_a_painting(self):
+        painting = module_of("surfaces.painting").Painting()
+        self.assertIs(type(painting.buffers), module_of("surfaces.buffers").Buffers)
 
 
 if __name__ == "__main__":

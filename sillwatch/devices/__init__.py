@@ -1,0 +1,1 @@
+"""Devices: what is shown where, and what is hit there."""
