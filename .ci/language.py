@@ -151,6 +151,13 @@ class Check:
             name = node.func.attr
             if name not in METHODS_OF_VALUES and name not in self.defined and name != "__init__":
                 self.tell(path, node.lineno, f"L25: {name}")
+        if isinstance(node, ast.Call):
+            for argument in node.args:
+                if isinstance(argument, ast.Starred) and not isinstance(argument.value, ast.Name):
+                    self.tell(path, node.lineno, "L7: behind a star")
+        if isinstance(node, ast.Attribute) and not isinstance(node.ctx, ast.Load):
+            if not isinstance(node.value, ast.Name):
+                self.tell(path, node.lineno, "L18: an attribute that is not assigned through a local name")
         if isinstance(node, ast.Compare):
             for operator, other in zip(node.ops, node.comparators):
                 plain = isinstance(other, ast.Constant) and other.value in (None, True, False)

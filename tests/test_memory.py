@@ -194,6 +194,8 @@ class Settling(MemoryTest):
         self.assertIs(self.settled(wide, 2000, 1000, 42, 42), True)
         self.assertIs(self.seen(wide, 2000, 1000, 42, 42), True)
         self.assertIs(self.settled(A, 2000, 1000, 42, 42), False)
+        # What else it covers is not its frame.
+        self.assertIs(self.seen(A, 2000, 1000), True)
 
 
 if __name__ == "__main__":

@@ -100,6 +100,8 @@ class Joining(NestingTest):
     def test_how_many_in_one(self):
         parent = self.program.surface()
         pairs = [self.program.inner(parent) for _ in range(16)]
+        for sub, _ in pairs:
+            self.assertIsInstance(sub, int)
         last = self.program.surface()
         self.assertEqual(self.program.join(last, parent), REFUSED)
         self.assertIsInstance(self.program.join(last, pairs[3][1]), int)

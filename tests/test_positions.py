@@ -148,6 +148,16 @@ class Popups(unittest.TestCase):
             positioner = (85, 75, 10, 10, 1, 1, 1, 1, 10, 10, 0, 0, adjust)
             self.assertEqual(place_popup(positioner, room), expected)
 
+    def test_each_bit_by_itself(self):
+        # Turned over, the popup lies outside too, so that the other bits would show.
+        positioner = (-60, -60, 200, 200, 1, 1, 1, 1, 50, 50, -55, -55)
+        self.assertEqual(place_popup((*positioner, 0), (0, 0, 100, 100)), (85, 85, 50, 50))
+        for adjust, expected in [
+            (1, (85, 85, 50, 50)), (2, (85, 85, 50, 50)), (4, (50, 85, 50, 50)), (8, (85, 50, 50, 50)),
+            (16, (85, 85, 15, 50)), (32, (85, 85, 50, 15)),
+        ]:
+            self.assertEqual(place_popup((*positioner, adjust), (0, 0, 100, 100)), expected)
+
     def test_a_room_from_elsewhere(self):
         positioner = (0, 0, 5, 5, -1, -1, -1, -1, 10, 10, 0, 0, 12)
         self.assertEqual(place_popup(positioner, (-30, -40, 100, 100)), (-10, -10, 10, 10))

@@ -8,13 +8,15 @@ from sillwatch.screens.layers import same_layer
 def composed(output, layers):
     """Return the pixels of the picture of an output, row by row."""
     blank = [DESK] * (output.width * output.scale * output.height * output.scale)
-    return repainted(output, blank, layers, rectangle_region(*output.area()))
+    area = output.area()
+    return repainted(output, blank, layers, rectangle_region(*area))
 
 
 def repainted(output, pixels, layers, region):
     """Return new pixels, in which those of the units of a region are made anew."""
     painted = list(pixels)
-    part = common(region, rectangle_region(*output.area()))
+    area = output.area()
+    part = common(region, rectangle_region(*area))
     for rectangle in rectangles(part):
         _paint_colour(output, painted, rectangle, DESK)
     for layer in layers:

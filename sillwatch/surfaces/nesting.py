@@ -19,15 +19,16 @@ def may_join(surfaces, number, parent):
     return len(_chain(surfaces, parent)) + _height(surfaces, number) <= MOST_NESTED
 
 
-def join(surfaces, number, parent):
+def put_inside(surfaces, number, parent):
     """Put a surface into another one, on top of all that is in it."""
     surface = surfaces[number]
     surface.role = "sub"
     surface.is_held = True
     surface.parent = parent
     surface.is_free = False
-    surfaces[parent].order.append(number)
-    surfaces[parent].places[number] = (0, 0)
+    outer = surfaces[parent]
+    outer.order.append(number)
+    outer.places[number] = (0, 0)
 
 
 def take_out(surfaces, number):

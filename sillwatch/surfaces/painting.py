@@ -4,7 +4,7 @@ from sillwatch.errors import Fault
 from sillwatch.regions.bands import has_square
 from sillwatch.surfaces.buffers import FARTHEST_PLACE, MOST_PIXELS, Buffers
 from sillwatch.surfaces.contents import changed_content, content_size, laid_over, picture_pixels, scale_fits
-from sillwatch.surfaces.nesting import coming_true, is_bound, join, may_join, set_beside, take_out
+from sillwatch.surfaces.nesting import coming_true, is_bound, may_join, put_inside, set_beside, take_out
 from sillwatch.surfaces.surface import Draft, Surface
 
 MOST_SURFACES = 32
@@ -98,7 +98,8 @@ class Painting:
 
     def release(self, surface):
         """Say that the window or popup of a surface has been destroyed."""
-        self._surfaces[surface].is_held = False
+        released = self._surfaces[surface]
+        released.is_held = False
 
     def _make_surface(self, request):
         if len(self._surfaces) >= MOST_SURFACES:
@@ -144,26 +145,27 @@ class Painting:
             raise Fault(number, 1, "bad size")
         rows = [] if is_bound(self._surfaces, number) else coming_true(self._surfaces, number, change)
         contents = {inner: changed_content(self._surfaces[inner].content, said) for inner, said in rows}
-        waits = {number: change}
-        for inner in contents:
-            waits[inner] = None
-        if self._pixels_with(contents, waits) > MOST_PIXELS:
+        if self._pixels_with(contents, {number: change}) > MOST_PIXELS:
             raise Fault(number, 3, "too many pixels")
-        for inner, wait in waits.items():
-            self._surfaces[inner].waiting = wait
-        for inner, said in rows:
-            self._surfaces[inner].content = contents[inner]
-            self._surfaces[inner].called.extend(said.callbacks)
-            reply.applied.append(inner)
         surface.draft = Draft()
+        surface.waiting = change
+        for inner, said in rows:
+            changed = self._surfaces[inner]
+            changed.waiting = None
+            changed.content = contents[inner]
+            changed.called.extend(said.callbacks)
+            reply.applied.append(inner)
         if attached is not None and attached != 0:
             reply.tell(attached, "buffer", "release", [])
 
     def _pixels_with(self, contents, waits):
-        """Return how many pixels the program has if some surfaces have other contents, and others wait in some."""
+        """Return how many pixels the program has if some contents come true, and other changes wait in surfaces."""
         pixels = self.buffers.pixel_count()
         for number, surface in self._surfaces.items():
-            pixels += picture_pixels(contents.get(number, surface.content).picture)
+            if number in contents:
+                pixels += picture_pixels(contents[number].picture)
+                continue
+            pixels += picture_pixels(surface.content.picture)
             waiting = waits.get(number, surface.waiting)
             if waiting is not None:
                 pixels += picture_pixels(waiting.attached[1])
@@ -173,8 +175,9 @@ class Painting:
         surface = self._surfaces[request.number]
         if surface.is_held:
             raise Fault(request.number, 12, "role first")
-        for inner in surface.places:
-            self._surfaces[inner].parent = None
+        for number in surface.places:
+            inner = self._surfaces[number]
+            inner.parent = None
         for callback in surface.all_callbacks():
             reply.end(callback)
         del self._surfaces[request.number]
@@ -182,14 +185,15 @@ class Painting:
     def _detach(self, buffer):
         """Let no draft say anything of the picture of a buffer that is gone."""
         for surface in self._surfaces.values():
-            if surface.draft.buffer[1] == buffer:
-                surface.draft.buffer = (False, None)
+            draft = surface.draft
+            if draft.buffer[1] == buffer:
+                draft.buffer = (False, None)
 
     def _join(self, request):
         sub, number, parent = request.arguments
         if not may_join(self._surfaces, number, parent):
             raise Fault(request.number, 13, "cannot be joined")
-        join(self._surfaces, number, parent)
+        put_inside(self._surfaces, number, parent)
         self._subs[sub] = number
 
     def _serve_sub(self, request):
@@ -217,7 +221,8 @@ class Painting:
         x, y = request.arguments
         if not -FARTHEST_PLACE <= x <= FARTHEST_PLACE or not -FARTHEST_PLACE <= y <= FARTHEST_PLACE:
             raise Fault(request.number, 8, "bad place")
-        self._surfaces[self._surfaces[number].parent].places[number] = (x, y)
+        parent = self._surfaces[self._surfaces[number].parent]
+        parent.places[number] = (x, y)
 
     def _set_beside(self, request, number):
         sibling = request.arguments[0]
