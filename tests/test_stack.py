@@ -52,6 +52,13 @@ class Moves(StackTest):
             self.stack.put(Placed(0, window, FRAME, False, False, None), top)
         self.assertEqual([row[1] for row in self.rows()], [4, 3, 1, 2, 5])
 
+    def test_each_once(self):
+        self.put((0, 1), (0, 2), (1, 1), (0, 1))
+        self.assertEqual(self.rows(), [(0, 2), (1, 1), (0, 1)])
+        self.stack.put(Placed(0, 1, OTHER, True, False, None), False)
+        self.assertEqual(self.rows(), [(0, 1), (0, 2), (1, 1)])
+        self.assertEqual(self.fields(0, 1), (0, 1, OTHER, True, False, None))
+
     def test_the_list_is_new(self):
         self.put((0, 1))
         self.stack.placed_rows().append(None)

@@ -29,7 +29,8 @@ class Stack:
         return None if at is None else self._rows[at]
 
     def put(self, placed, top):
-        """Put a window at the top or at the bottom."""
+        """Put a window at the top or at the bottom, in place of the one that is there already."""
+        self.take(placed.slot, placed.window)
         self._rows.insert(len(self._rows) if top else 0, placed)
 
     def take(self, slot, window):
@@ -42,7 +43,6 @@ class Stack:
         """Bring a window to the top."""
         placed = self.find(slot, window)
         if placed is not None:
-            self.take(slot, window)
             self.put(placed, True)
 
     def own(self, slot):
@@ -53,7 +53,6 @@ class Stack:
         """Carry out what a program wishes of its windows."""
         if deed[0] == "map":
             _, window, frame, maximized, before, top = deed
-            self.take(slot, window)
             self.put(Placed(slot, window, frame, False, maximized, before), top)
         elif deed[0] == "unmap":
             self.take(slot, deed[1])
