@@ -2,6 +2,9 @@
 
 from sillwatch.errors import Fault
 from sillwatch.objects.requests import Request
+from sillwatch.objects.tables import event_row
+from sillwatch.octets.fields import read_arguments
+from sillwatch.octets.messages import cut_messages
 
 
 def fault_of(call, *arguments):
@@ -25,3 +28,15 @@ def error_class_of(call, *arguments):
     except ValueError as error:
         return type(error)
     return None
+
+
+def rows_of(reply, kinds):
+    """Return what a reply tells as tuples (object, event, values ..), for a dict of interfaces by numbers."""
+    rows = []
+    for octets in reply.told:
+        messages, rest, fault = cut_messages(octets)
+        assert len(messages) == 1 and rest == [] and not fault
+        number, opcode, body = messages[0]
+        name, event_kinds = event_row(kinds[number], opcode)
+        rows.append((number, name, *read_arguments(list(event_kinds), body)))
+    return rows

@@ -4,14 +4,11 @@ import copy
 
 from sillwatch.errors import Fault
 from sillwatch.objects.replies import Reply
-from sillwatch.objects.tables import event_row
-from sillwatch.octets.fields import read_arguments
-from sillwatch.octets.messages import cut_messages
 from sillwatch.surfaces.painting import Painting
 from sillwatch.windows.desk import Desk
 from sillwatch.windows.stack import Stack
 from sillwatch.windows.view import View
-from tests.helpers import ask
+from tests.helpers import ask, rows_of
 
 PAINTERS = {"memory", "buffer", "compositor", "region", "surface", "joiner", "sub"}
 MEMORY, COMPOSITOR, JOINER, WINDOWS = 3, 4, 5, 6
@@ -73,14 +70,7 @@ class Program:
 
     def events(self, reply):
         """Return what is told as tuples (object, event, values ..)."""
-        rows = []
-        for octets in reply.told:
-            messages, rest, fault = cut_messages(octets)
-            assert len(messages) == 1 and rest == [] and not fault
-            number, opcode, body = messages[0]
-            name, kinds = event_row(self.kinds[number], opcode)
-            rows.append((number, name, *read_arguments(list(kinds), body)))
-        return rows
+        return rows_of(reply, self.kinds)
 
     def tell_frames(self):
         reply = Reply()

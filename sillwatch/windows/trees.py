@@ -9,7 +9,7 @@ POPUP_BORDER = 2
 def plain_rows(placed, desk, painting, view):
     """Return the rows of a window's own tree, and behind them those of its popups without a grant."""
     inside = inside_of(placed.frame)
-    rows = _tree_rows(_surface_of(desk, placed.window), painting, inside, inside)
+    rows = _tree_rows(window_surface(desk, placed.window), painting, inside, inside)
     for _, surface, place, granted in desk.popup_rows(placed.window, view):
         if not granted:
             rows.extend(_tree_rows(surface, painting, place, overlap(place, inside)))
@@ -27,17 +27,18 @@ def granted_rows(placed, desk, painting, view):
     return found
 
 
-def bordered(place):
-    """Return the place of a popup with the border around it."""
-    x, y, width, height = place
-    return x - POPUP_BORDER, y - POPUP_BORDER, width + 2 * POPUP_BORDER, height + 2 * POPUP_BORDER
-
-
-def _surface_of(desk, window):
+def window_surface(desk, window):
+    """Return the surface of a window, or None if there is no such window."""
     for number, surface, _, _ in desk.window_rows():
         if number == window:
             return surface
     return None
+
+
+def bordered(place):
+    """Return the place of a popup with the border around it."""
+    x, y, width, height = place
+    return x - POPUP_BORDER, y - POPUP_BORDER, width + 2 * POPUP_BORDER, height + 2 * POPUP_BORDER
 
 
 def _tree_rows(surface, painting, corner, clip):

@@ -1,0 +1,1 @@
+"""Giving: what programs give to one another, and what they are given."""

@@ -1,0 +1,1 @@
+"""Policies: what may flow from one program to another one."""
