@@ -37,6 +37,20 @@ FUNCTIONS = {
         "scene_of(stack, paintings, desks, views)", "covers_of(scene, areas)", "top_cover(covers, x, y)",
         "hit_at(scene, paintings, x, y)",
     ],
+    "devices.keymaps": ["read_keymap(text)", "keymap_text(keymap)", "symbol_of(keymap, layout, code, modifiers)"],
+    "devices.routing": ["nearest_point(areas, x, y)"],
+    "giving.exchange": [
+        "coming(policy, kind, goods, giver, taker)", "newest(policy, kind, given, labels, slot)",
+        "shared_octets(policy, sent, labels, slot, name)", "is_present(policy, labels, taken, slot, label)",
+    ],
+    "policies.reading": ["read_policy(text)", "policy_text(text)"],
+    "policies.flows": [
+        "lets(policy, kind, content, giver, taker)", "can_give(policy, giver, taker)",
+        "way(policy, labels, giver, taker)",
+    ],
+    "policies.clauses": ["clauses(policy)"],
+    "outputs": ["check_outputs(outputs)"],
+    "screens.screens": ["captured(output, layers, x, y, width, height)"],
     "screens.colours": ["over(colour, below)", "slot_colour(slot)"],
     "screens.layers": ["same_layer(a, b)", "window_layers(placed, desk, painting, view)"],
     "screens.painting": [
@@ -84,6 +98,43 @@ CLASSES = {
         "was_seen(covers, time, guard, x, y)",
     ],
     "screens.layers Layer(what, region, colour, x, y, content)": [],
+    "devices.keymaps Keymap(layouts)": [],
+    "devices.hearing Hearing()": [
+        "serve(request, keymap, focus_surface, reply)", "hear(deed, keymap, reply)", "keymap_set(keymap, reply)",
+        "spend()",
+    ],
+    "devices.sight Sight(areas, scene, stack, paintings, desks, painted, guard)": [],
+    "devices.routing Routing(areas)": [
+        "motion(sight, time, x, y)", "button(sight, time, number, down)", "axis(sight, time, dx, dy)",
+        "key(sight, time, code, down)", "switch(sight, slot, window)", "outputs_changed(areas)", "lost(sight)",
+        "forget_slot(slot)", "has_grip(slot)",
+    ],
+    "giving.holdings Holdings()": [
+        "serve(request, grant, gripped, dragging, reply)", "bound(number)", "ended(number)", "pane()",
+        "offered(objects, way, goods, reply)", "hovers(surface, x, y, goods, reply)", "moves(time, x, y, reply)",
+        "leaves(reply)", "dropped()", "answered(number, picture, reply)", "compare(shared, present, reply)",
+        "fetch_names()", "watch_labels()",
+    ],
+    "giving.exchange Asked(number, slot, capture, output, x, y, width, height)": [],
+    "giving.exchange Exchange()": [
+        "give(slot, goods, primary)", "drag(slot, goods)", "send(slot, name, octets)", "unsend(slot, name)",
+        "ask(slot, capture, output, x, y, width, height)", "hover(target)", "ended(slot)", "relabelled(slot)",
+        "withdraw(slot, capture)",
+    ],
+    "screens.screens Screens(outputs, layers)": [
+        "paint(outputs, layers)", "picture(number, x, y, width, height)", "painted(number)",
+    ],
+    "server.mailbox Mailbox()": [
+        "put(octets)", "cost()", "take()", "is_bad()", "tell(octets)", "read(most)", "is_slow()", "close()",
+    ],
+    "server.server Server(outputs, policy, keymap, guard)": [
+        "admit(slot, label)", "send(slot, octets)", "receive(slot, most)", "leave(slot)", "end(slot)", "restart()",
+        "rounds(count)", "tick(time)", "motion(time, x, y)", "button(time, number, down)", "axis(time, dx, dy)",
+        "key(time, code, down)", "switch(time, slot, window)", "paste(primary)", "allow(number, allowed)",
+        "set_outputs(outputs)", "set_policy(text)", "set_keymap(text)", "set_guard(guard)", "captures()",
+        "selection(primary)", "windows()", "slots()", "kept(slot)", "picture(number, x, y, width, height)",
+        "painted(number)", "why(slot, number)",
+    ],
     "errors Fault(number, code, words)": [],
     "errors BadKeymap(place, words)": [],
     "errors BadPolicy(line, column, words)": [],
@@ -125,6 +176,11 @@ class Interface(unittest.TestCase):
                 self.check(made, module, arguments)
                 for method, expected in [parts_of(row) for row in methods]:
                     self.check(vars(made)[method], module, expected)
+
+    def test_policy(self):
+        made = module_of("policies.reading").Policy
+        self.assertTrue(inspect.isclass(made))
+        self.assertEqual(made.__module__, "sillwatch.policies.reading")
 
     def test_properties(self):
         cutter = module_of("octets.messages").Cutter

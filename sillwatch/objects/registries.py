@@ -1,6 +1,7 @@
 """The requests of display and registry, and what is told of the outputs."""
 
 from sillwatch.errors import Fault
+from sillwatch.outputs import output_numbered
 
 _GLOBALS = (
     (1, "memory"),
@@ -53,8 +54,8 @@ class Registries:
             for output in new:
                 reply.tell(registry, "registry", "there", [_global_number(output), "output"])
         for number, owner in self._owners.items():
-            old = _output_numbered(before, owner)
-            present = _output_numbered(after, owner)
+            old = output_numbered(before, owner)
+            present = output_numbered(after, owner)
             if old is not None and present is not None and _size_row(old) != _size_row(present):
                 _tell_size(number, present, reply)
 
@@ -81,7 +82,7 @@ class Registries:
             raise Fault(request.number, 8, "no such global")
         if name != "output":
             return
-        output = _output_numbered(outputs, place - _FIRST_OUTPUT)
+        output = output_numbered(outputs, place - _FIRST_OUTPUT)
         self._owners[number] = None if output is None else output.number
         if output is not None:
             _tell_size(number, output, reply)
@@ -91,17 +92,9 @@ def _global_number(output):
     return _FIRST_OUTPUT + output.number
 
 
-def _output_numbered(outputs, number):
-    """Return the output with a number, or None."""
-    for output in outputs:
-        if output.number == number:
-            return output
-    return None
-
-
 def _missing_in(outputs, others):
     """Return those of the other outputs whose number none of the outputs has."""
-    return [other for other in others if _output_numbered(outputs, other.number) is None]
+    return [other for other in others if output_numbered(outputs, other.number) is None]
 
 
 def _size_row(output):

@@ -32,6 +32,11 @@ def cut_messages(octets):
     return messages, octets[at:], fault
 
 
+def is_message_size(size):
+    """Tell whether a message can have a size in octets."""
+    return HEADER_SIZE <= size <= GREATEST_SIZE and size % 4 == 0
+
+
 class Cutter:
     """Cuts messages from octets that come in portions."""
 
@@ -65,7 +70,7 @@ def _cut(octets):
     at = 0
     while at + HEADER_SIZE <= len(octets):
         size = number_at(octets, at + 6, 2)
-        if not _is_size(size):
+        if not is_message_size(size):
             return messages, at, True
         if at + size > len(octets):
             break
@@ -73,7 +78,3 @@ def _cut(octets):
         messages.append((number_at(octets, at, 4), number_at(octets, at + 4, 2), body))
         at += size
     return messages, at, False
-
-
-def _is_size(size):
-    return HEADER_SIZE <= size <= GREATEST_SIZE and size % 4 == 0

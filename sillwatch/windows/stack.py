@@ -45,6 +45,13 @@ class Stack:
         if placed is not None:
             self.put(placed, True)
 
+    def set_hidden(self, slot, window, hidden):
+        """Hide a window, or show it again."""
+        at = self._place_of(slot, window)
+        if at is not None:
+            placed = self._rows[at]
+            self._rows[at] = Placed(slot, window, placed.frame, hidden, placed.maximized, placed.before)
+
     def own(self, slot):
         """Return the windows of a slot by their numbers."""
         return {placed.window: placed for placed in self._rows if placed.slot == slot}
