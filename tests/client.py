@@ -24,7 +24,7 @@ def request_octets(number, interface, name, *arguments):
 
 
 class Client:
-    """A program in a slot of a server."""
+    """A program in a slot of a server. Its kinds are the interfaces of its objects, by their numbers."""
 
     def __init__(self, server, slot=0, label="a", numbers=100):
         self.server = server
@@ -59,6 +59,8 @@ class Client:
         values = read_arguments(list(kinds), body)
         if name == "offer":
             self.kinds[values[0]] = "offer"
+        if name == "removed":
+            self.kinds.pop(values[0], None)
         return (number, name, *values)
 
     def new(self, interface):
@@ -92,7 +94,8 @@ class Client:
 
     def surface(self):
         number = self.new("surface")
-        assert self.ask(COMPOSITOR, "compositor", "surface", number) == []
+        self.ask(COMPOSITOR, "compositor", "surface", number)
+        assert self.is_there()
         return number
 
     def paint(self, surface, width, height, colour=0xFF000000):
@@ -123,7 +126,7 @@ class Client:
     def configure(self, window, surface):
         told = self.hide(surface)
         assert told[-1][:2] == (window, "configure"), told
-        assert self.ask(window, "window", "ack", told[-1][2]) == []
+        self.ask(window, "window", "ack", told[-1][2])
 
     def mapped(self, width=40, height=30, colour=0xFF000000, name=""):
         """Return the window and the surface of a new window that is mapped."""
@@ -143,7 +146,7 @@ class Client:
 
     def pointer(self):
         number = self.new("pointer")
-        assert self.ask(SEAT, "seat", "pointer", number) == []
+        self.ask(SEAT, "seat", "pointer", number)
         return number
 
     def keyboard(self):
@@ -156,7 +159,8 @@ class Client:
         self.put(TRANSFER, "transfer", "source", number)
         for kind, octets in pieces:
             self.put(number, "source", "write", kind, octets)
-        assert self.ask(1, "display", "registry", self.new("registry"))
+        self.server.rounds(1)
+        assert self.is_there()
         return number
 
     # The server's view.
