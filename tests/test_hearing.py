@@ -145,6 +145,12 @@ class Pointers(HearingTest):
         self.assertEqual(self.hear("button", 1, 1, late), [(10, "button", 1, 1, 1, 5)])
         self.assertEqual(self.hear("key", 99, 1, late)[0], (20, "key", 2, 99, 1, 5))
 
+    def test_a_release_that_was_told(self):
+        self.make("pointer", 10)
+        self.hear("button", 1, 1, 5)
+        self.hear("button", 1, 0, 6)
+        self.assertEqual(self.hear("button", 1, 0, 7), [])
+
     def test_a_press_without_a_pointer(self):
         self.assertEqual(self.hear("button", 1, 1, 5), [])
         self.make("pointer", 10)

@@ -459,6 +459,7 @@ class Captures(HoldingsTest):
         for width, height, expected in [
             (0, 1, empty), (1, 0, empty), (0, 0, empty), (0, 257, empty), (257, 1, much), (1, 257, much),
             (256, 16, []), (16, 256, []), (64, 64, []), (256, 17, much), (65, 64, much), (2 ** 32 - 1, 1, much),
+            (17, 240, []), (17, 241, much), (241, 17, much),
             (1, 1, []),
         ]:
             self.setUp()

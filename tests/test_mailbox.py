@@ -65,7 +65,7 @@ class Queue(MailboxTest):
         self.assertEqual(self.mailbox.queued(), 3)
 
     def test_costs(self):
-        for size, cost in [(8, 2), (12, 2), (252, 2), (256, 2), (260, 3), (512, 3), (516, 4), (1024, 5), (16384, 65)]:
+        for size, cost in [(8, 2), (12, 2), (252, 2), (256, 2), (260, 3), (512, 3), (516, 4), (1024, 5), (16128, 64), (16132, 65), (16384, 65)]:
             self.setUp()
             self.mailbox.put(message(size))
             self.assertEqual(self.mailbox.cost(), cost, size)

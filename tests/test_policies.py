@@ -195,6 +195,8 @@ class Grammar(PoliciesTest):
             self.refused("allow paste " + text, 1, 13, words)
             self.refused('allow paste of "x" ' + text, 1, 20, words)
         self.refused('allow paste of "x" of "y"', 1, 20, words)
+        self.refused('allow paste "from" any to any;', 1, 13, words)
+        self.refused('allow paste "of" "x" from any to any;', 1, 13, words)
 
     def test_expected_to(self):
         words = "expected to"
@@ -216,7 +218,7 @@ class Grammar(PoliciesTest):
 
     def test_expected_equals(self):
         words = "expected ="
-        for text in ["", "a", ";", '"x"', "{"]:
+        for text in ["", "a", ";", '"x"', '"="', "{"]:
             self.refused("program a " + text, 1, 11, words)
             self.refused("group g " + text, 1, 9, words)
 
@@ -289,6 +291,8 @@ class ItemFaults(PoliciesTest):
         self.accepted('program a = "' + '\\"' * 100 + '";')
         self.refused('program a = "' + "\\\\" * 101 + '";', 1, 1, "bad label")
         self.refused('program a = "";program a = "";', 1, 1, "bad label")
+        self.refused('program a = "x";group g = {a};program b = "";', 1, 31, "bad label")
+        self.refused('allow paste from any to any;program b = "";', 1, 29, "bad label")
 
     def test_groups(self):
         self.refused(TWO + "group a = {b};", 3, 1, "name is used already: a")

@@ -423,6 +423,10 @@ class Grips(RoutingTest):
         self.press()
         self.assertEqual(self.motion(50, 50, 4), [(0, ("motion", 23, 25, 4))])
 
+    def test_motions_without_the_surface(self):
+        self.stack.take(0, self.window)
+        self.assertEqual(self.motion(31, 33), [])
+
     def test_axis(self):
         self.assertEqual(self.routing.axis(self.sight(), 5, -3, 4), [(0, ("axis", -3, 4, 5))])
         self.motion(110, 30)
@@ -488,6 +492,19 @@ class HeldFrames(RoutingTest):
         self.stack.perform(0, ("frame", self.window, FRAME, True, (1, 2, 30, 40)))
         self.hold(20, 12)
         self.assertEqual(self.motion(21, 12), self.drawn((19, 10, 64, 52)))
+
+    def test_held_behind_other_messages_and_slots(self):
+        self.hold(20, 12)
+        self.assertEqual(self.lost(), [])
+        self.routing.forget_slot(1)
+        self.assertEqual(self.motion(21, 12), self.drawn((19, 10, 64, 52)))
+
+    def test_a_press_behind_it(self):
+        self.hold(20, 12)
+        self.release()
+        self.motion(30, 30)
+        self.press()
+        self.assertEqual(self.motion(31, 32, 7), [(0, ("motion", 11, 12, 7))])
 
     def test_other_buttons_hold_nothing(self):
         self.hold(20, 12, 2)
@@ -729,6 +746,9 @@ class Switches(RoutingTest):
         for slot, number in [(0, other), (0, 999), (1, window), (3, window)]:
             self.assertEqual(self.switch(slot, number), [])
             self.assertIsNone(self.routing.focus)
+        sight = self.sight()
+        sight.desks[0] = None
+        self.assertEqual(self.routing.switch(sight, 0, window), [])
 
     def test_the_pointer_stays(self):
         window, surface = self.mapped(0)
@@ -842,6 +862,11 @@ class ForgottenSlots(RoutingTest):
         self.assertIs(self.routing.has_grip(0), False)
         self.assertEqual(self.routing.buttons, [1])
         self.assertEqual(self.lost(), [])
+
+    def test_a_slot_that_has_nothing(self):
+        for slot in range(4):
+            self.routing.forget_slot(slot)
+        self.assertEqual((self.routing.focus, self.routing.pointer_at), (None, None))
 
     def test_a_held_frame(self):
         self.mapped(0)

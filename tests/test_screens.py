@@ -210,6 +210,9 @@ class Pictures(unittest.TestCase):
         self.assertEqual(screens.picture(0, 0, 96, 128, 32), [DESK] * 4096)
         self.assertIs(error_class_of(screens.picture, 0, 0, 0, 64, 65), TooManyPixels)
         self.assertIs(error_class_of(screens.picture, 0, 0, 0, 128, 33), TooManyPixels)
+        screens = Screens([Output(0, 0, 0, 17, 241, 1, 0)], [])
+        self.assertEqual(len(screens.picture(0, 0, 1, 17, 240)), 4080)
+        self.assertIs(error_class_of(screens.picture, 0, 0, 0, 17, 241), TooManyPixels)
 
     def test_of_two_errors_the_first(self):
         screens = Screens([Output(0, 0, 0, 128, 128, 1, 0)], [])

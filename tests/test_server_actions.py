@@ -141,6 +141,24 @@ class Orders(ActionsTest):
             (keyboard, "symbol", "A", "A", 1), (keyboard, "key", 3, 10, 0, 4),
         ], []])
 
+    def test_a_new_keyboard(self):
+        client, keyboard = self.clients[0], self.clients[0].new("keyboard")
+        told = client.ask(7, "seat", "keyboard", keyboard)
+        self.assertEqual(told, [(keyboard, "keymap", KEYMAP), (keyboard, "enter", self.surfaces[0])])
+        client, keyboard = self.clients[1], self.clients[1].new("keyboard")
+        self.assertEqual(client.ask(7, "seat", "keyboard", keyboard), [(keyboard, "keymap", KEYMAP)])
+
+    def test_windows_with_the_same_number(self):
+        server = server_of()
+        clients = [Client(server, slot, "a").start() for slot in (0, 1)]
+        windows = [client.mapped()[0] for client in clients]
+        self.assertEqual(windows[0], windows[1])
+        server.rounds(1)
+        for client in clients:
+            client.told()
+        server.switch(0, 0, windows[0])
+        self.assertEqual([[row[-1] for row in client.told()] for client in clients], [[2], []])
+
     def test_axis(self):
         self.server.axis(0, 1, 2)
         self.assertEqual(self.told(), [[], []])

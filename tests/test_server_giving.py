@@ -321,6 +321,47 @@ class Drags(GivingTest):
         self.release()
         self.assertEqual(self.told()[1], [(TRANSFER, "away")])
 
+    def test_a_drop_under_a_surface_that_comes(self):
+        self.drag(0, ("k", []))
+        self.motion(1, 3, 28)
+        window, surface = self.clients[2].mapped(60, 40)
+        self.server.switch(0, 2, window)
+        self.server.tick(0)
+        self.told()
+        self.release()
+        # That one is the target, but it is not hovered.
+        told = self.told()
+        self.assertEqual(told[1], [(TRANSFER, "away")])
+        self.assertEqual([row[1:3] for row in told[2]], [("enter", surface)])
+
+    def test_frames_and_ground_are_no_targets(self):
+        self.clients[1].paint(self.surfaces[1], 10, 10)
+        self.drag(0, ("k", []))
+        self.motion(1, 3, 4)
+        self.told()
+        self.motion(1, 3, -4)
+        self.assertEqual(self.told()[1], [(TRANSFER, "away")])
+        self.motion(1, 30, 20)
+        self.assertEqual(self.told()[1], [])
+
+    def test_drags_one_after_the_other(self):
+        for _ in range(2):
+            self.drag(0, ("k", []))
+            self.motion(1, 3, 4)
+            self.release()
+            self.assertEqual([row[1] for row in self.told()[1]], ["hover", "hover_kind", "enter", "offer", "kind"])
+
+    def test_surfaces_that_end_elsewhere(self):
+        self.drag(0, ("k", []))
+        self.motion(1, 3, 4)
+        for slot in (0, 1, 2):
+            client = self.clients[slot]
+            surface = client.surface()
+            client.ask(surface, "surface", "destroy")
+        self.told()
+        self.motion(1, 3, 5)
+        self.assertEqual([row[1] for row in self.told()[1]], ["moved"])
+
     def test_a_program_that_cannot_be_told(self):
         for count, expected in [(511, ["offer", "kind"]), (512, ["away"])]:
             self.setUp()
@@ -443,6 +484,15 @@ class Captures(GivingTest):
         self.assertEqual(self.told(), [[], [(capture, "refused")], []])
         self.assertEqual(self.server.captures(), [])
         self.assertIs(error_class_of(self.server.allow, 1, False), NothingAsked)
+
+    def test_frames_are_told_behind_it(self):
+        self.server.set_outputs([Output(0, 100, 0, 100, 150, 1, 0)])
+        self.told()
+        self.ask(0, 0, 1, 1)
+        self.server.set_outputs([Output(0, 0, 0, 200, 150, 1, 0)])
+        self.told()
+        self.server.allow(1, False)
+        self.assertEqual(self.told()[0], [(self.windows[0], "output", 0)])
 
     def test_no_output(self):
         unknown = self.clients[1].output(77)

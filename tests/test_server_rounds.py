@@ -406,6 +406,30 @@ class TooSlow(unittest.TestCase):
         self.assertEqual([row[1] for row in self.client.told()[-2:]], ["enter", "error"])
         self.assertEqual(self.server.windows(), [])
 
+    def test_behind_each_kind_of_action(self):
+        for deed, words in [
+            (lambda window: self.server.button(0, 1, True), ["button", "error"]),
+            (lambda window: self.server.axis(0, 1, 1), ["axis", "error"]),
+            (lambda window: self.server.key(0, 1, True), ["symbol", "error"]),
+            (lambda window: self.server.switch(0, 0, window), ["configure", "error"]),
+        ]:
+            self.setUp()
+            window, _ = self.client.mapped()
+            other, _ = self.client.mapped()
+            self.client.pointer()
+            self.client.keyboard()
+            self.server.switch(0, 0, other)
+            self.server.switch(0, 0, window)
+            self.server.tick(0)
+            self.server.motion(0, 10, 20)
+            if words[0] == "configure":
+                self.server.switch(0, 0, other)
+            self.client.told()
+            self.fill(1024)
+            deed(window)
+            self.assertEqual([row[1] for row in self.client.told()[-2:]], words)
+            self.assertEqual(self.server.windows(), [])
+
     def test_behind_a_tick(self):
         watch = self.client.new("watch")
         self.client.ask(TRANSFER, "transfer", "watch", watch, "x")

@@ -344,6 +344,12 @@ class Keeping(unittest.TestCase):
         self.client.ask(unmapped, "window", "destroy")
         self.assertEqual(self.names(), ["a"])
 
+    def test_what_keeps_nothing(self):
+        window, _ = self.client.mapped(name="a")
+        self.client.ask(window, "window", "smaller", 20, 20)
+        self.client.ask(window, "window", "raise", 1)
+        self.assertEqual(self.names(), [])
+
     def test_maximized_and_hidden(self):
         maximized, _ = self.client.mapped(name="m")
         hidden, _ = self.client.mapped(name="h")

@@ -68,11 +68,11 @@ class Ticks(unittest.TestCase):
 
     def test_callbacks(self):
         first, second = self.ask_back(self.client), self.ask_back(self.client)
-        self.server.tick(2 ** 33 + 7)
+        self.server.tick(2 ** 32 + 7)
         self.assertEqual(self.client.told(), [
             (first, "done", 7), (1, "removed", first), (second, "done", 7), (1, "removed", second),
         ])
-        self.server.tick(2 ** 33 + 8)
+        self.server.tick(2 ** 32 + 8)
         self.assertEqual(self.client.told(), [])
 
     def test_the_order(self):
@@ -233,6 +233,13 @@ class Environment(unittest.TestCase):
         self.assertEqual(self.client.told(), [
             (REGISTRY, "gone", 16), (REGISTRY, "there", 24, "output"), (third, "size", 31, 40, 2, 3),
         ])
+
+    def test_an_output_object_that_has_ended(self):
+        first = self.client.output()
+        self.client.ask(first, "output", "destroy")
+        self.assertEqual(self.client.ask(4, "compositor", "region", first), [])
+        self.server.set_outputs([Output(0, 0, 0, 200, 150, 1, 4)])
+        self.assertEqual(self.client.told(), [])
 
     def test_other_outputs_move_no_frame(self):
         before = self.server.windows()

@@ -122,6 +122,17 @@ class Numbers(WhyTest):
         self.server.send(3, [])
         self.assertEqual([row[0] for row in self.causes()], [3, 3])
 
+    def test_each_message_goes_with_its_step(self):
+        keyboard = self.client.keyboard()
+        self.forget()
+        for text in ("", "layout a{}"):
+            self.server.set_keymap(text)
+        self.assertEqual(self.client.told(), [(keyboard, "keymap", ""), (keyboard, "keymap", "layout a{}")])
+        self.assertEqual(self.causes(), [(997, "keymap", None), (998, "keymap", None)])
+        for _ in range(998):
+            self.server.send(3, [])
+        self.assertEqual(self.causes(), [(0, "keymap", None)])
+
     def test_what_is_unread_does_not_matter(self):
         self.client.put(1, "display", "sync", self.client.new("callback"))
         self.server.rounds(1)

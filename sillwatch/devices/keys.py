@@ -47,7 +47,8 @@ class Keys:
         kind, word = symbol
         if kind != "character":
             return word, ""
-        if "caps" in self._locks and word.isalpha():
+        if "caps" in self._locks:
+            # Of other characters than letters these are the characters themselves.
             word = word.lower() if "shift" in held else word.upper()
         if "control" in held or "alt" in held or "super" in held:
             return word, ""

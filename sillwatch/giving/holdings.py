@@ -109,7 +109,7 @@ class Holdings:
     def _give(self, request, grant, reply):
         """Give or drag the goods of a source, if the serial is that of the grant."""
         source, serial, *rest = request.arguments
-        if grant is None or serial != grant or self._sources.is_used(source):
+        if serial != grant or self._sources.is_used(source):
             return
         goods = self._sources.use_up(source)
         reply.wish(("spend",))

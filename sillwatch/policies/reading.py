@@ -80,7 +80,7 @@ def _item_text(item):
 
 
 def _who_text(who):
-    if who.has_any and not who.names:
+    if not who.names:
         return "any"
     if not who.has_any:
         return _braced(who.names) if who.has_braces else who.names[0]

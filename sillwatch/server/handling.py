@@ -89,12 +89,10 @@ def _end_objects(world, slot, numbers, cause):
     program = world.slots[slot].program
     reply = Reply()
     for number in numbers:
-        interface = program.objects.interface_of(number)
         program.registries.forget(number)
         program.holdings.ended(number)
-        if interface == "capture":
-            world.exchange.withdraw(slot, number)
-        if interface == "surface" and world.exchange.hovered == (slot, number):
+        world.exchange.withdraw(slot, number)
+        if world.exchange.hovered == (slot, number):
             # Another surface may get the number, and that one is not hovered.
             world.exchange.hover((slot, 0))
         if program.objects.end(number):
