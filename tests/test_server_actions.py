@@ -158,6 +158,9 @@ class Orders(ActionsTest):
             client.told()
         server.switch(0, 0, windows[0])
         self.assertEqual([[row[-1] for row in client.told()] for client in clients], [[2], []])
+        keyboards = [client.new("keyboard") for client in clients]
+        told = [client.ask(7, "seat", "keyboard", number) for client, number in zip(clients, keyboards)]
+        self.assertEqual([[row[1] for row in rows] for rows in told], [["keymap", "enter"], ["keymap"]])
 
     def test_axis(self):
         self.server.axis(0, 1, 2)

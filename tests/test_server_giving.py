@@ -351,6 +351,17 @@ class Drags(GivingTest):
             self.release()
             self.assertEqual([row[1] for row in self.told()[1]], ["hover", "hover_kind", "enter", "offer", "kind"])
 
+    def test_a_drag_from_where_another_one_was_dropped(self):
+        self.drag(0, ("k", []))
+        self.motion(1, 3, 4)
+        self.release()
+        self.server.button(0, 1, True)
+        client = self.clients[1]
+        serial = [row[2] for row in client.told() if row[1] == "button"][0]
+        client.ask(TRANSFER, "transfer", "drag", client.source(("l", [])), serial)
+        self.motion(1, 4, 4)
+        self.assertEqual([row[1] for row in client.told()], ["motion", "hover", "hover_kind"])
+
     def test_surfaces_that_end_elsewhere(self):
         self.drag(0, ("k", []))
         self.motion(1, 3, 4)
