@@ -33,6 +33,7 @@ class Other:
         self.slot = slot
         self.source = source
         self.next = 500
+        self.serial = 0
         server.admit(slot, source.choice(["b", "c", "a long label"]))
         self.send((1, "display", "registry", 2))
         for number, name in enumerate(GLOBALS, MEMORY):
@@ -57,21 +58,39 @@ class Other:
     def show(self, width, height):
         buffer = self.new()
         self.send(
-            (MEMORY, "memory", "buffer", buffer, width, height), (self.surface, "surface", "attach", buffer),
+            (MEMORY, "memory", "buffer", buffer, width, height),
+            (buffer, "buffer", "fill", 0, 0, width, height, 0xFF000000 + buffer),
+            (self.surface, "surface", "attach", buffer),
             (self.surface, "surface", "commit"), (buffer, "buffer", "destroy"),
         )
 
     def is_there(self):
         return self.server.slots()[self.slot][0]
 
+    def receive(self):
+        """Receive everything, and remember the serial of the last press."""
+        for _, opcode, body in cut_messages(self.server.receive(self.slot, 10 ** 6)[0])[0]:
+            if opcode == 3 and len(body) == 16 and body[8] == 1:
+                self.serial = body[0] + 256 * body[1]
+
+    def give(self):
+        source = self.new()
+        self.send(
+            (TRANSFER, "transfer", "source", source), (source, "source", "write", "text/plain", [self.slot]),
+            (TRANSFER, "transfer", "give", source, self.serial, self.source.randrange(2)),
+            (source, "source", "destroy"),
+        )
+
     def send_something(self):
         """Send some octets, some of them faults."""
         source = self.source
         size = source.randrange(16, 60)
-        deed = source.randrange(12)
-        self.server.receive(self.slot, 10 ** 6)
+        deed = source.randrange(15)
+        self.receive()
         if deed < 2:
             self.show(size, size)
+        elif deed >= 12:
+            self.give()
         elif deed == 2:
             self.send(*[(1, "display", "registry", self.new()) for _ in range(30)])
         else:
@@ -178,6 +197,7 @@ class Pair:
 
     def show(self, surface, buffer, width, height):
         self.put(MEMORY, "memory", "buffer", buffer, width, height)
+        self.put(buffer, "buffer", "fill", 0, 0, width, height, 0xFFFF0000)
         self.put(surface, "surface", "attach", buffer)
         self.put(surface, "surface", "commit")
         self.ask(buffer, "buffer", "destroy")
@@ -262,6 +282,9 @@ class Pair:
             code = source.choice([10, 20, 30, 40])
             server.key(self.time, code, True)
             server.key(self.time, code, False)
+            for other in others:
+                other.receive()
+                other.give()
         elif deed == 5:
             server.set_policy(source.choice(POLICIES))
         elif deed == 6:
@@ -363,7 +386,7 @@ class Promise(unittest.TestCase):
     def make_step(self, pair, windows):
         source = pair.source
         window, surface = source.choice(windows)
-        deed = source.randrange(14)
+        deed = source.randrange(16)
         if deed == 0 and len(windows) < 4:
             windows.append(pair.mapped(source.randrange(16, 40), 30, source.choice(["", "n", "m"])))
         elif deed == 1:
@@ -390,14 +413,14 @@ class Promise(unittest.TestCase):
             pair.turn_away()
         elif deed == 4:
             self.give_or_drag(pair, window)
-        elif deed == 5:
+        elif deed == 14:
             self.capture(pair)
-        elif deed == 6:
+        elif deed == 5 and source.random() < 0.5:
             pair.put(TRANSFER, "transfer", "watch", pair.client.new("watch"), "b")
             pair.ask(TRANSFER, "transfer", "fetch", pair.client.new("fetch"), "k")
-        elif deed == 7:
+        elif deed == 6:
             pair.both("set_keymap", KEYMAP if source.random() < 0.5 else "layout x{10:'q;}")
-        elif deed == 8:
+        elif deed == 7:
             areas = source.choice([OUTPUTS, OUTPUTS[::-1], [Output(0, -20, 0, 260, 120, 1, 5)]])
             pair.both("set_outputs", areas)
             pair.both("set_outputs", OUTPUTS)
@@ -418,6 +441,9 @@ class Promise(unittest.TestCase):
             pair.ask(surface, "surface", "commit")
             pair.go()
             pair.both("tick", pair.time)
+        elif deed == 8:
+            for _ in range(70):
+                pair.put(1, "display", "sync", pair.client.new("callback"))
         elif deed == 13 and source.random() < 0.2:
             pair.both(source.choice(["leave", "end"]), pair.slot)
         pair.let_others_do(4)
@@ -431,6 +457,7 @@ class Promise(unittest.TestCase):
         if pair.source.random() < 0.5:
             pair.ask(TRANSFER, "transfer", "give", source, serial, 0)
             pair.both("paste", False)
+            pair.both("paste", True)
         else:
             pair.ask(TRANSFER, "transfer", "drag", source, serial)
             pair.both("motion", pair.time, *FREE)
@@ -440,7 +467,7 @@ class Promise(unittest.TestCase):
     def capture(self, pair):
         output, capture = pair.client.new("output"), pair.client.new("capture")
         pair.put(2, "registry", "bind", 16, ("output", output))
-        pair.ask(TRANSFER, "transfer", "ask", capture, output, 0, 0, 60, 4)
+        pair.ask(TRANSFER, "transfer", "ask", capture, output, 0, 9, 60, 4)
         allowed = pair.source.random() < 0.7
         for server in pair.servers:
             for row in server.captures():
