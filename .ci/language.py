@@ -79,6 +79,8 @@ class Check:
                 self.tell(path, node.lineno, "L6: statement")
             if isinstance(node, ast.FunctionDef):
                 self.check_function(path, node)
+            if isinstance(node, ast.ClassDef) and not node.name[0].isalpha():
+                self.tell(path, node.lineno, f"L12: a class's name begins with a letter: {node.name}")
             if isinstance(node, ast.Constant):
                 self.check_constant(path, node, docstrings)
             if isinstance(node, (ast.GeneratorExp, ast.Await, ast.Yield, ast.Lambda, ast.Set, ast.SetComp, ast.Div)):

@@ -22,7 +22,7 @@ class Keymap:
         self.layouts = layouts
 
 
-class _Reader:
+class KeymapReader:
     """Reads the tokens of a keymap, one after another. Behind the last one stands an empty one."""
 
     def __init__(self, text):
@@ -52,7 +52,7 @@ class _Reader:
 
 def read_keymap(text):
     """Return the keymap of a text."""
-    reader = _Reader(text)
+    reader = KeymapReader(text)
     layouts = []
     while reader.word() != "":
         if reader.word() == "layout" and len(layouts) == MOST_LAYOUTS:

@@ -8,7 +8,7 @@ MOST_WATCHES = 8
 MOST_READ = 1024
 
 
-class _Fetch:
+class Fetch:
     """A fetch: the name under which it looks, and the octets that it had with the last tick, or None."""
 
     def __init__(self, name):
@@ -16,7 +16,7 @@ class _Fetch:
         self.octets = None
 
 
-class _Watch:
+class Watch:
     """A watch: the label for which it looks, and what it was told last: True or False, or None if nothing."""
 
     def __init__(self, label):
@@ -35,13 +35,13 @@ class Fetches:
         """Make a fetch."""
         number, name = request.arguments
         _check_new(request, self._fetches, MOST_FETCHES)
-        self._fetches[number] = _Fetch(name)
+        self._fetches[number] = Fetch(name)
 
     def make_watch(self, request):
         """Make a watch."""
         number, label = request.arguments
         _check_new(request, self._watches, MOST_WATCHES)
-        self._watches[number] = _Watch(label)
+        self._watches[number] = Watch(label)
 
     def names(self):
         """Return the names of all fetches, in order."""

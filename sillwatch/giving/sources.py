@@ -8,7 +8,7 @@ MOST_OCTETS = 32768
 LONGEST_TEXT = 128
 
 
-class _Source:
+class Source:
     """A source: a dict of the octets of its pieces by their kinds, and whether it is used up."""
 
     def __init__(self):
@@ -26,7 +26,7 @@ class Sources:
         """Make a source without pieces."""
         if len(self._fresh()) >= MOST_SOURCES:
             raise Fault(request.number, 2, "too much")
-        self._sources[request.arguments[0]] = _Source()
+        self._sources[request.arguments[0]] = Source()
 
     def write(self, request):
         """Append octets to a piece of a source."""

@@ -38,7 +38,7 @@ class Who:
         self.has_braces = has_braces
 
 
-class _Reader:
+class ItemReader:
     """Reads tokens, one after another."""
 
     def __init__(self, text):
@@ -78,7 +78,7 @@ class _Reader:
 
 def read_items(text):
     """Return the items of the text of a policy."""
-    reader = _Reader(text)
+    reader = ItemReader(text)
     items = []
     while reader.token().kind != "end":
         items.append(_read_item(reader))

@@ -10,7 +10,7 @@ from sillwatch.surfaces.pictures import Picture
 MOST_PIXELS = 4096
 
 
-class _Screen:
+class Screen:
     """What was painted last of an output: its pixels, and the rectangles of the units that were painted anew."""
 
     def __init__(self, output, pixels, painted_last):
@@ -34,10 +34,10 @@ class Screens:
         for output in copied_outputs(outputs):
             before = self._screens.get(output.number)
             if before is None or output_fields(before.output) != output_fields(output):
-                screens[output.number] = _Screen(output, composed(output, layers), [output.area()])
+                screens[output.number] = Screen(output, composed(output, layers), [output.area()])
             else:
                 pixels = repainted(output, before.pixels, layers, changed)
-                screens[output.number] = _Screen(output, pixels, _cut_to(changed, output))
+                screens[output.number] = Screen(output, pixels, _cut_to(changed, output))
         self._screens = screens
         self._layers = list(layers)
 
