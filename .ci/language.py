@@ -163,7 +163,8 @@ class Check:
         if isinstance(node, ast.Compare):
             for operator, other in zip(node.ops, node.comparators):
                 plain = isinstance(other, ast.Constant) and other.value in (None, True, False)
-                if isinstance(operator, (ast.Is, ast.IsNot)) and not plain:
+                own = isinstance(node.left, ast.Name) and node.left.id == "self"
+                if isinstance(operator, (ast.Is, ast.IsNot)) and not plain and not own:
                     self.tell(path, node.lineno, "L20: is")
 
     def check_cycles(self):

@@ -2,7 +2,7 @@
 
 import unittest
 
-from sillwatch.surfaces.pictures import Picture, clear_picture
+from sillwatch.surfaces.pictures import Picture, Walk, clear_picture
 
 
 def numbered(width, height):
@@ -40,6 +40,17 @@ class Pictures(unittest.TestCase):
         self.assertEqual(clear_picture(3, 2).pixels, [0] * 6)
         self.assertEqual(clear_picture(1, 4).height, 4)
 
+    def test_alike(self):
+        picture = numbered(3, 2)
+        self.assertTrue(picture.is_alike(picture))
+        self.assertTrue(picture.is_alike(numbered(3, 2)))
+        for other in [numbered(2, 3), numbered(6, 1), numbered(3, 1), numbered(3, 3), clear_picture(3, 2)]:
+            self.assertFalse(picture.is_alike(other))
+            self.assertFalse(other.is_alike(picture))
+        other = numbered(3, 2)
+        other.pixels[5] = 7
+        self.assertFalse(picture.is_alike(other))
+
 
 class Turns(unittest.TestCase):
     def test_single_turns(self):
@@ -76,6 +87,26 @@ class Turns(unittest.TestCase):
         for y in range(3):
             for x in range(4):
                 self.assertEqual(turned.colour_at(3 - 1 - y, x), picture.colour_at(x, y))
+
+    def test_the_way_through_a_turned_picture(self):
+        for width, height in [(1, 1), (1, 5), (5, 1), (3, 4), (4, 2)]:
+            for turn in range(8):
+                turned = Picture(width, height, list(range(width * height))).turned(turn)
+                walk = Walk(width, height, turn)
+                self.assertEqual((walk.width, walk.height), (turned.width, turned.height))
+                for y in range(walk.height):
+                    for x in range(walk.width):
+                        places = walk.row_places(x, y, walk.width - x)
+                        self.assertEqual(places, [turned.colour_at(column, y) for column in range(x, walk.width)])
+                        self.assertEqual(walk.row_places(x, y, 1), [turned.colour_at(x, y)])
+                    self.assertEqual(walk.row_places(0, y, 0), [])
+
+    def test_without_colours(self):
+        for width, height in [(0, 0), (0, 3), (3, 0)]:
+            for turn in range(8):
+                turned = Picture(width, height, []).turned(turn)
+                expected = (height, width) if turn % 2 else (width, height)
+                self.assertEqual((turned.width, turned.height, turned.pixels), (*expected, []))
 
     def test_a_turned_picture_is_new(self):
         for turn in range(8):

@@ -5,7 +5,7 @@ from sillwatch.outputs import copied_outputs, output_fields
 from sillwatch.regions.bands import common, rectangle_region, rectangles
 from sillwatch.screens.colours import DESK
 from sillwatch.screens.painting import composed, differing, repainted
-from sillwatch.surfaces.pictures import Picture
+from sillwatch.surfaces.pictures import Walk
 
 MOST_PIXELS = 4096
 
@@ -36,8 +36,9 @@ class Screens:
             if before is None or output_fields(before.output) != output_fields(output):
                 screens[output.number] = Screen(output, composed(output, layers), [output.area()])
             else:
-                pixels = repainted(output, before.pixels, layers, changed)
-                screens[output.number] = Screen(output, pixels, _cut_to(changed, output))
+                part = _cut_to(changed, output)
+                pixels = repainted(output, before.pixels, layers, changed) if part else before.pixels
+                screens[output.number] = Screen(output, pixels, part)
         self._screens = screens
         self._layers = list(layers)
 
@@ -45,12 +46,15 @@ class Screens:
         """Return the colours of a rectangle of what a screen was given, row by row."""
         screen = self._screen(number)
         output = screen.output
-        whole = Picture(output.width * output.scale, output.height * output.scale, screen.pixels).turned(output.turn)
-        if x + width > whole.width or y + height > whole.height:
+        walk = Walk(output.width * output.scale, output.height * output.scale, output.turn)
+        if x + width > walk.width or y + height > walk.height:
             raise OutsidePicture("the rectangle reaches beyond the picture")
         if width * height > MOST_PIXELS:
             raise TooManyPixels("these are too many pixels")
-        return [whole.colour_at(column, row) for row in range(y, y + height) for column in range(x, x + width)]
+        colours = []
+        for row in range(y, y + height):
+            colours.extend([screen.pixels[place] for place in walk.row_places(x, row, width)])
+        return colours
 
     def painted(self, number):
         """Return the rectangles of the units of an output that were painted last."""

@@ -19,29 +19,50 @@ class Picture:
 
     def turned(self, turn):
         """Return a new picture, turned by a number from 0 to 7."""
-        picture = Picture(self.width, self.height, list(self.pixels))
+        walk = Walk(self.width, self.height, turn)
+        pixels = []
+        for y in range(walk.height):
+            pixels.extend([self.pixels[at] for at in walk.row_places(0, y, walk.width)])
+        return Picture(walk.width, walk.height, pixels)
+
+    def is_alike(self, other):
+        """Tell whether another picture has the same colours at the same places."""
+        # Most pictures that are compared are one and the same, and their colours need no look.
+        if self is other:
+            return True
+        return (self.width, self.height) == (other.width, other.height) and self.pixels == other.pixels
+
+
+class Walk:
+    """The way through the colours of a picture on which a turned one is met row by row.
+
+    It has the size of the turned picture, the place of the first colour, and the ways to the right and down.
+    """
+
+    def __init__(self, width, height, turn):
+        self.width = width
+        self.height = height
+        self.first = 0
+        self.right = 1
+        self.down = width
         if turn >= 4:
-            picture = _mirrored(picture)
+            self.first = width - 1
+            self.right = -1
         for _ in range(turn % 4):
-            picture = _quarter(picture)
-        return picture
+            self._make_quarter()
+
+    def row_places(self, x, y, many):
+        """Return the places of so many colours to the right from a place of the turned picture on."""
+        begin = self.first + x * self.right + y * self.down
+        return list(range(begin, begin + many * self.right, self.right))
+
+    def _make_quarter(self):
+        """Bring the top to the right: what went down goes to the left, what went to the right goes down."""
+        self.first += (self.height - 1) * self.down
+        self.right, self.down = -self.down, self.right
+        self.width, self.height = self.height, self.width
 
 
 def clear_picture(width, height):
     """Return a new picture that is clear everywhere."""
     return Picture(width, height, [CLEAR] * (width * height))
-
-
-def _mirrored(picture):
-    width = picture.width
-    columns = list(range(width - 1, -1, -1))
-    pixels = [picture.pixels[y * width + x] for y in range(picture.height) for x in columns]
-    return Picture(width, picture.height, pixels)
-
-
-def _quarter(picture):
-    """Bring the top to the right: a column from below becomes a row."""
-    width = picture.width
-    rows = list(range(picture.height - 1, -1, -1))
-    pixels = [picture.pixels[y * width + x] for x in range(width) for y in rows]
-    return Picture(picture.height, width, pixels)
