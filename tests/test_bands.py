@@ -6,7 +6,7 @@ import random
 import unittest
 
 from sillwatch.regions.bands import (
-    common, has_square, mirrored, rectangle_region, rectangles, scaled, shifted, turned, united, without,
+    common, has_square, mirrored, rectangle_region, rectangles, scaled, shifted, turned, united, united_all, without,
 )
 
 FAR = 2 ** 24
@@ -183,6 +183,47 @@ class TwoRegions(unittest.TestCase):
         ]:
             made.append((90, 91, ((0, 1),)))
         self.assertEqual(region, before)
+
+
+class SeveralRegions(unittest.TestCase):
+    def check(self, *groups):
+        regions = [form_of(squares) for squares in groups]
+        before = copy.deepcopy(regions)
+        self.assertEqual(united_all(regions), form_of(set().union(*groups)))
+        self.assertEqual(regions, before)
+
+    def test_none_and_one(self):
+        self.check()
+        self.check(set())
+        self.check(set(), set())
+        self.check({(1, 2), (1, 3), (4, 3)})
+        self.check(set(), {(1, 2), (3, 2)}, set())
+
+    def test_small_grids(self):
+        for first, second in itertools.product(grids(2, 2), grids(2, 2, 1, 1)):
+            self.check(first, second, {(0, 2)})
+
+    def test_larger_regions(self):
+        source = random.Random(23)
+        for _ in range(200):
+            self.check(*[some_squares(source, source.randint(1, 4), 0.4) for _ in range(source.randint(0, 6))])
+
+    def test_bands_that_begin_and_end_together(self):
+        one, two, three = rectangle_region(0, 0, 2, 4), rectangle_region(4, 0, 2, 4), rectangle_region(2, 0, 2, 4)
+        self.assertEqual(united_all([one, two]), [(0, 4, ((0, 2), (4, 6)))])
+        self.assertEqual(united_all([one, two, three]), [(0, 4, ((0, 6),))])
+        self.assertEqual(united_all([one, rectangle_region(0, 4, 2, 4)]), [(0, 8, ((0, 2),))])
+        self.assertEqual(united_all([one, rectangle_region(0, 5, 2, 4)]), [(0, 4, ((0, 2),)), (5, 9, ((0, 2),))])
+
+    def test_one_within_another(self):
+        large, small = rectangle_region(0, 0, 9, 9), rectangle_region(3, 3, 2, 2)
+        self.assertEqual(united_all([large, small]), large)
+        self.assertEqual(united_all([small, large, small]), large)
+
+    def test_the_list_is_new(self):
+        region = rectangle_region(0, 0, 2, 2)
+        united_all([region]).append(1)
+        self.assertEqual(region, rectangle_region(0, 0, 2, 2))
 
 
 class OneRegion(unittest.TestCase):

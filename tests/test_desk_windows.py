@@ -60,7 +60,9 @@ class Making(WindowsTest):
 
     def test_again_of_the_same_surface(self):
         window, surface = self.program.window()
+        self.assertEqual(self.program.desk.surface_of(window), surface)
         self.ask(window, "destroy")
+        self.assertIsNone(self.program.desk.surface_of(window))
         self.assertEqual(self.program.desk.window_rows(), [])
         again, _ = self.program.window(surface)
         self.assertEqual(self.program.desk.window_rows(), [(again, surface, "", "")])

@@ -191,6 +191,26 @@ class Repainting(PaintingTest):
         ]:
             self.assertEqual(repainted(output, pixels, layers, region), expected)
 
+    def test_parts_with_gaps(self):
+        # What lies between the parts of a region stays, though it is made together with them.
+        layers = [plain("frame", RED, (0, 0, 8, 6)), shown(content_of(numbered(4, 3, 128)), 2, 2)]
+        for scale in (1, 2):
+            output = Output(0, 0, 0, 8, 6, scale, 0)
+            pixels = [at + 1 for at in range(48 * scale * scale)]
+            expected = expected_pixels(output, layers)
+            for rectangles in [
+                [(1, 1, 6, 1), (1, 2, 1, 3), (6, 2, 1, 3), (1, 5, 6, 1)], [(0, 0, 1, 1), (2, 0, 1, 1), (1, 1, 1, 1)],
+                [(0, 0, 1, 6), (7, 0, 1, 6)], [(0, 0, 2, 2), (6, 4, 2, 2)], [(2, 2, 1, 3), (4, 2, 1, 1), (4, 4, 1, 1)],
+                [(x, y, 1, 1) for y in range(6) for x in range(y % 2, 8, 2)],
+            ]:
+                region = plain("", 0, *rectangles).region
+                squares = squares_of(region)
+                kept = [
+                    expected[at] if (at % (8 * scale) // scale, at // (8 * scale) // scale) in squares else pixels[at]
+                    for at in range(len(pixels))
+                ]
+                self.assertEqual(repainted(output, pixels, layers, region), kept)
+
     def test_with_scales(self):
         source = random.Random(99)
         for _ in range(60):

@@ -779,6 +779,34 @@ class Lost(RoutingTest):
         self.assertEqual(self.motion(31, 31), [])
         self.assertEqual(self.routing.axis(self.sight(), 1, 1, 1), [])
 
+    def test_what_can_be_lost(self):
+        self.assertIs(Routing(self.areas).has_anything(), False)
+        self.assertIs(self.routing.has_anything(), True)
+        self.stack.take(0, self.window)
+        self.assertIs(self.routing.has_anything(), True)
+        self.lost()
+        self.assertIs(self.routing.has_anything(), False)
+
+    def test_one_thing_that_can_be_lost(self):
+        self.routing.forget_slot(0)
+        self.release()
+        self.assertEqual((self.routing.focus, self.routing.pointer_at), (None, (0, self.surface)))
+        self.assertIs(self.routing.has_anything(), True)
+        self.motion(299, 0)
+        self.assertEqual((self.routing.focus, self.routing.pointer_at), (None, None))
+        self.assertIs(self.routing.has_anything(), False)
+        self.routing.switch(self.sight(), 1, self.other)
+        self.assertEqual((self.routing.focus, self.routing.pointer_at), ((1, self.other), None))
+        self.assertIs(self.routing.has_anything(), True)
+
+    def test_a_grip_alone_can_be_lost(self):
+        self.stack.take(0, self.window)
+        self.stack.perform(0, ("map", self.window, FRAME, False, None, True))
+        self.routing.pointer_at = None
+        self.routing.focus = None
+        self.assertIs(self.routing.has_grip(0), True)
+        self.assertIs(self.routing.has_anything(), True)
+
     def test_a_window_that_is_unmapped(self):
         self.stack.take(0, self.window)
         self.check_all_lost()

@@ -3,7 +3,6 @@
 from sillwatch.devices.held import drawn_deeds, held_at, let_go_deeds
 from sillwatch.devices.scenes import covers_of, hit_at
 from sillwatch.devices.sight import is_window_shown, shown_of
-from sillwatch.windows.trees import window_surface
 
 HOLDING_BUTTON = 1
 
@@ -83,6 +82,10 @@ class Routing:
         self.x, self.y = nearest_point(areas, self.x, self.y)
         if before != (self.x, self.y):
             self._held = None
+
+    def has_anything(self):
+        """Tell whether there is anything that can be lost."""
+        return any([thing is not None for thing in (self.focus, self.pointer_at, self._grip, self._held)])
 
     def lost(self, sight):
         """Return what comes of windows and surfaces that are shown no longer."""
@@ -171,7 +174,7 @@ class Routing:
             return []
         deeds = self._unfocus()
         self.focus = (slot, window)
-        self._focus_surface = window_surface(sight.desks[slot], window)
+        self._focus_surface = sight.desks[slot].surface_of(window)
         return deeds + [(slot, ("focus", self._focus_surface))]
 
     def _unfocus(self):

@@ -2,7 +2,7 @@
 
 from sillwatch.windows.frames import inside_of
 from sillwatch.windows.rectangles import has_point, has_squares, overlap
-from sillwatch.windows.trees import bordered, granted_rows, plain_rows
+from sillwatch.windows.trees import bordered, shown_rows
 
 
 class Shown:
@@ -63,12 +63,9 @@ def hit_at(scene, paintings, x, y):
 
 
 def _scene_window(placed, desk, painting, view):
-    plain = _shown_list(plain_rows(placed, desk, painting, view))
-    granted = [
-        (place, _shown_list(rows))
-        for place, rows in granted_rows(placed, desk, painting, view) if has_squares(place)
-    ]
-    return SceneWindow(placed.slot, placed.window, placed.frame, plain, granted)
+    plain, granted = shown_rows(placed, desk, painting, view)
+    seen = [(place, _shown_list(rows)) for place, rows in granted if has_squares(place)]
+    return SceneWindow(placed.slot, placed.window, placed.frame, _shown_list(plain), seen)
 
 
 def _shown_list(rows):

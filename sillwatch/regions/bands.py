@@ -16,9 +16,33 @@ def united(a, b):
     return _combined(a, b, _either)
 
 
+def united_all(regions):
+    """Return the region of the squares of any of some regions."""
+    bands = sorted([band for region in regions for band in region])
+    edges = sorted(set([band[0] for band in bands] + [band[1] for band in bands]))
+    united_bands = []
+    begun = []
+    at = 0
+    for top, bottom in zip(edges, edges[1:]):
+        begun = [band for band in begun if band[1] > top]
+        while at < len(bands) and bands[at][0] == top:
+            begun.append(bands[at])
+            at += 1
+        united_bands.append((top, bottom, _united_spans([span for band in begun for span in band[2]])))
+    return _joined(united_bands)
+
+
 def common(a, b):
     """Return the region of the squares that both regions have."""
-    return _combined(a, b, _both)
+    bands = []
+    first = 0
+    for top, bottom, spans in a:
+        first = _first_ending_behind(b, first, top)
+        at = first
+        while at < len(b) and b[at][0] < bottom:
+            bands.append((max(top, b[at][0]), min(bottom, b[at][1]), _common_spans(spans, b[at][2])))
+            at += 1
+    return _joined(bands)
 
 
 def without(a, b):
@@ -85,10 +109,6 @@ def _either(first, second):
     return first or second
 
 
-def _both(first, second):
-    return first and second
-
-
 def _first_alone(first, second):
     return first and not second
 
@@ -110,6 +130,30 @@ def _combined_spans(a, b, keeps):
             begin = spans.pop()[0]
         spans.append((begin, end))
     return tuple(spans)
+
+
+def _united_spans(spans):
+    """Return the spans of all places that any of some spans has."""
+    found = []
+    for begin, end in sorted(spans):
+        if found and begin <= found[-1][1]:
+            begin, reached = found.pop()
+            end = max(end, reached)
+        found.append((begin, end))
+    return tuple(found)
+
+
+def _common_spans(a, b):
+    """Return the spans of all places that both lists of spans have."""
+    found = []
+    first = 0
+    for begin, end in a:
+        first = _first_ending_behind(b, first, begin)
+        at = first
+        while at < len(b) and b[at][0] < end:
+            found.append((max(begin, b[at][0]), min(end, b[at][1])))
+            at += 1
+    return tuple(found)
 
 
 def _spans_of(band):

@@ -1,11 +1,11 @@
 """The layers of windows: what is painted over what."""
 
-from sillwatch.regions.bands import common, rectangle_region, united
+from sillwatch.regions.bands import rectangle_region, united_all
 from sillwatch.screens.colours import GROUND, slot_colour
 from sillwatch.surfaces.contents import content_size
 from sillwatch.windows.frames import inside_of
-from sillwatch.windows.rectangles import has_squares
-from sillwatch.windows.trees import bordered, granted_rows, plain_rows
+from sillwatch.windows.rectangles import has_squares, overlap
+from sillwatch.windows.trees import bordered, shown_rows
 
 
 class Layer:
@@ -32,12 +32,12 @@ def same_layer(a, b):
 def window_layers(placed, desk, painting, view):
     """Return the layers of a shown window, from the lowest."""
     colour = slot_colour(placed.slot)
+    plain, granted = shown_rows(placed, desk, painting, view)
     layers = [
         _plain_layer("frame", [placed.frame], colour),
         _plain_layer("inside", [inside_of(placed.frame)], GROUND),
     ]
-    layers.extend(_surface_layers(plain_rows(placed, desk, painting, view), painting))
-    granted = granted_rows(placed, desk, painting, view)
+    layers.extend(_surface_layers(plain, painting))
     places = [place for place, _ in granted if has_squares(place)]
     layers.append(_plain_layer("border", [bordered(place) for place in places], colour))
     layers.append(_plain_layer("ground", places, GROUND))
@@ -48,16 +48,13 @@ def window_layers(placed, desk, painting, view):
 
 def _same_look(a, b):
     """Tell whether two contents are painted alike; where they hear is not painted."""
-    if (a.turn, a.scale, a.picture.width, a.picture.height) != (b.turn, b.scale, b.picture.width, b.picture.height):
-        return False
-    return a.picture.pixels == b.picture.pixels
+    return (a.turn, a.scale) == (b.turn, b.scale) and a.picture.is_alike(b.picture)
 
 
 def _plain_layer(what, rectangles, colour):
     """Return a layer of one colour that has the squares of rectangles."""
-    region = []
-    for rectangle in rectangles:
-        region = united(region, rectangle_region(*rectangle))
+    regions = [rectangle_region(*rectangle) for rectangle in rectangles]
+    region = regions[0] if len(regions) == 1 else united_all(regions)
     return Layer(what, region, colour, 0, 0, None)
 
 
@@ -67,6 +64,6 @@ def _surface_layers(rows, painting):
     for surface, x, y, clip in rows:
         content = painting.content_of(surface)
         width, height = content_size(content)
-        region = common(rectangle_region(x, y, width, height), rectangle_region(*clip))
-        layers.append(Layer("surface", region, 0, x, y, content))
+        seen = overlap((x, y, width, height), clip)
+        layers.append(Layer("surface", rectangle_region(*seen), 0, x, y, content))
     return layers

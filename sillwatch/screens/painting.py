@@ -1,8 +1,12 @@
 """The pixels of outputs: layers painted over one another."""
 
-from sillwatch.regions.bands import common, rectangle_region, rectangles, united
+from sillwatch.regions.bands import common, rectangle_region, rectangles, united_all
+from sillwatch.screens.blending import Blend
+from sillwatch.screens.boxes import boxes_around
 from sillwatch.screens.colours import DESK, OPAQUE, over
 from sillwatch.screens.layers import same_layer
+from sillwatch.screens.samples import Samples, sample_places
+from sillwatch.windows.rectangles import has_squares, overlap
 
 
 def composed(output, layers):
@@ -14,61 +18,64 @@ def composed(output, layers):
 
 def repainted(output, pixels, layers, region):
     """Return new pixels, in which those of the units of a region are made anew."""
-    painted = list(pixels)
     area = output.area()
-    part = common(region, rectangle_region(*area))
-    for rectangle in rectangles(part):
-        _paint_colour(output, painted, rectangle, DESK)
-    for layer in layers:
-        seen = rectangles(common(layer.region, part))
-        if layer.what != "surface":
-            for rectangle in seen:
-                _paint_colour(output, painted, rectangle, layer.colour)
-        elif seen:
-            picture = layer.content.picture.turned(layer.content.turn)
-            for rectangle in seen:
-                _paint_surface(output, painted, rectangle, layer, picture)
+    part = rectangles(common(region, rectangle_region(*area)))
+    # A few larger boxes are made faster than many small rectangles, and then the rectangles are cut out of them.
+    made = list(pixels)
+    for box in boxes_around(part):
+        _make_box(output, made, layers, box)
+    painted = list(pixels)
+    for rectangle in part:
+        for begin, end in _pixel_rows(output, rectangle):
+            painted[begin:end] = made[begin:end]
     return painted
 
 
 def differing(before, after):
     """Return the region that must be painted again where the layers before become those after."""
-    region = []
+    regions = []
     for old, new in zip(before, after):
         if not same_layer(old, new):
-            region = united(united(region, old.region), new.region)
+            regions.extend([old.region, new.region])
     many = min(len(before), len(after))
-    for layer in before[many:] + after[many:]:
-        region = united(region, layer.region)
-    return region
+    regions.extend([layer.region for layer in before[many:] + after[many:]])
+    return united_all(regions)
 
 
-def _paint_colour(output, painted, rectangle, colour):
+def _make_box(output, made, layers, box):
+    """Make all pixels of a rectangle of units anew."""
+    _paint_colour(output, made, box, DESK)
+    for layer in layers:
+        for rectangle in rectangles(layer.region):
+            seen = overlap(rectangle, box)
+            if not has_squares(seen):
+                continue
+            if layer.what == "surface":
+                _paint_surface(output, made, seen, layer)
+            else:
+                _paint_colour(output, made, seen, layer.colour)
+
+
+def _paint_colour(output, made, rectangle, colour):
+    """Paint a rectangle of units in one colour."""
+    if colour < OPAQUE:
+        for begin, end in _pixel_rows(output, rectangle):
+            made[begin:end] = [over(colour, below) for below in made[begin:end]]
+        return
+    row = [colour] * (rectangle[2] * output.scale)
     for begin, end in _pixel_rows(output, rectangle):
-        if colour >= OPAQUE:
-            painted[begin:end] = [colour] * (end - begin)
-        else:
-            painted[begin:end] = [over(colour, below) for below in painted[begin:end]]
+        made[begin:end] = row
 
 
-def _paint_surface(output, painted, rectangle, layer, picture):
-    """Paint a surface, with its turned picture, in a rectangle of units."""
+def _paint_surface(output, made, rectangle, layer):
+    """Paint a surface in a rectangle of units."""
     x, y, width, height = rectangle
-    columns = _samples(x - layer.x, width, layer.content.scale, output.scale)
-    rows = _samples(y - layer.y, height, layer.content.scale, output.scale)
+    content = layer.content
+    samples = Samples(content, output.scale, x - layer.x, width)
+    rows = sample_places(y - layer.y, height, content.scale, output.scale)
+    blend = Blend()
     for row, (begin, end) in zip(rows, _pixel_rows(output, rectangle)):
-        colours = [picture.colour_at(column, row) for column in columns]
-        painted[begin:end] = [
-            colour if colour >= OPAQUE else over(colour, below) for colour, below in zip(colours, painted[begin:end])
-        ]
-
-
-def _samples(first, many, scale, output_scale):
-    """Return for each pixel of some units the place in the picture, one way, that is painted there."""
-    return [
-        scale * (2 * way + 1) // (2 * output_scale)
-        for way in range(first * output_scale, (first + many) * output_scale)
-    ]
+        made[begin:end] = blend.painted(samples.row(row), made[begin:end])
 
 
 def _pixel_rows(output, rectangle):

@@ -13,7 +13,8 @@ def carry_out(world, deeds, request):
 
 def take_lost(world, request):
     """Take away what is lost with windows and surfaces that are shown no longer."""
-    carry_out(world, world.routing.lost(world.sight()), request)
+    if world.routing.has_anything():
+        carry_out(world, world.routing.lost(world.sight()), request)
 
 
 def tell_frames(world):

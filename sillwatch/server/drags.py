@@ -59,6 +59,8 @@ def _drop(world, slot):
 
 def _target(world):
     """Return the surface to which something of drags comes, a tuple (slot, surface, x, y, goods), or None."""
+    if not world.exchange.drags:
+        return None
     hit = hit_at(world.scene(), world.paintings(), world.routing.x, world.routing.y)
     if hit is None or hit[0] != "surface":
         return None

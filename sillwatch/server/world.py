@@ -11,7 +11,6 @@ from sillwatch.screens.screens import Screens
 from sillwatch.server.causes import Causes
 from sillwatch.server.program import Slot
 from sillwatch.windows.stack import Stack
-from sillwatch.windows.trees import window_surface
 from sillwatch.windows.view import View
 
 SLOTS = 4
@@ -60,7 +59,7 @@ class World:
         focus = self.routing.focus
         if focus is None or focus[0] != slot:
             return None
-        return window_surface(self.slots[slot].program.desk, focus[1])
+        return self.slots[slot].program.desk.surface_of(focus[1])
 
     def paintings(self):
         """Return the paintings by slots, with None for a slot without a program."""
@@ -68,8 +67,7 @@ class World:
 
     def scene(self):
         """Return the scene."""
-        views = [None if slot.program is None else self.view(number) for number, slot in enumerate(self.slots)]
-        return scene_of(self.stack, self.paintings(), self._desks(), views)
+        return scene_of(self.stack, self.paintings(), self._desks(), self._views())
 
     def sight(self):
         """Return what users' actions look at."""
@@ -79,11 +77,12 @@ class World:
 
     def layers(self, slots):
         """Return the layers of the shown windows of some slots, from the lowest."""
+        views = self._views()
         layers = []
         for placed in self.stack.placed_rows():
             if not placed.hidden and placed.slot in slots:
                 program = self.slots[placed.slot].program
-                layers.extend(window_layers(placed, program.desk, program.painting, self.view(placed.slot)))
+                layers.extend(window_layers(placed, program.desk, program.painting, views[placed.slot]))
         return layers
 
     def tell(self, slot, messages, request):
@@ -91,6 +90,10 @@ class World:
         for octets in messages:
             self.slots[slot].mailbox.tell(octets)
             self.causes.note(slot, request)
+
+    def _views(self):
+        """Return the views by slots, with None for a slot without a program."""
+        return [None if slot.program is None else self.view(number) for number, slot in enumerate(self.slots)]
 
     def _desks(self):
         return [None if slot.program is None else slot.program.desk for slot in self.slots]

@@ -71,6 +71,10 @@ class Desk:
         """Return the rows (window, surface, title, name) of all windows, in the order in which they were made."""
         return [(window.number, window.surface, window.title, window.name) for window in self._windows.values()]
 
+    def surface_of(self, window):
+        """Return the surface of a window, or None if there is no such window."""
+        return self._windows[window].surface if window in self._windows else None
+
     def limits_of(self, window):
         """Return the least and the largest size of the inside of a window."""
         return self._windows[window].least, self._windows[window].largest

@@ -85,7 +85,7 @@ class Popups:
 
     def rows(self, window, view):
         """Return the rows (popup, surface, place in the layout, granted) of what is shown on a window, in order."""
-        if window not in view.own_windows:
+        if not self._popups or window not in view.own_windows:
             return []
         rows = []
         for granted in (False, True):

@@ -6,33 +6,22 @@ from sillwatch.windows.rectangles import overlap
 POPUP_BORDER = 2
 
 
-def plain_rows(placed, desk, painting, view):
-    """Return the rows of a window's own tree, and behind them those of its popups without a grant."""
+def shown_rows(placed, desk, painting, view):
+    """Return two lists of what is shown on a window.
+
+    The first one has the rows of its own tree, and behind them those of its popups without a grant. The second one
+    has for each popup with a grant its place, cut to the window's output, and the rows of its tree.
+    """
     inside = inside_of(placed.frame)
-    rows = _tree_rows(window_surface(desk, placed.window), painting, inside, inside)
-    for _, surface, place, granted in desk.popup_rows(placed.window, view):
-        if not granted:
-            rows.extend(_tree_rows(surface, painting, place, overlap(place, inside)))
-    return rows
-
-
-def granted_rows(placed, desk, painting, view):
-    """Return for each popup with a grant its place, cut to the window's output, and the rows of its tree."""
-    area = output_of(view.areas, placed.frame)
-    found = []
-    for _, surface, place, granted in desk.popup_rows(placed.window, view):
-        if granted:
-            cut = overlap(place, area)
-            found.append((cut, _tree_rows(surface, painting, place, cut)))
-    return found
-
-
-def window_surface(desk, window):
-    """Return the surface of a window, or None if there is no such window."""
-    for number, surface, _, _ in desk.window_rows():
-        if number == window:
-            return surface
-    return None
+    plain = _tree_rows(desk.surface_of(placed.window), painting, inside, inside)
+    granted = []
+    for _, surface, place, is_granted in desk.popup_rows(placed.window, view):
+        if is_granted:
+            cut = overlap(place, output_of(view.areas, placed.frame))
+            granted.append((cut, _tree_rows(surface, painting, place, cut)))
+        else:
+            plain.extend(_tree_rows(surface, painting, place, overlap(place, inside)))
+    return plain, granted
 
 
 def bordered(place):
