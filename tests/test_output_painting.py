@@ -99,6 +99,25 @@ class Composing(PaintingTest):
         layers.reverse()
         self.assertEqual(self.compose(output, layers), [RED, RED, DESK, RED, RED, BLUE])
 
+    def test_what_lies_below(self):
+        # An opaque colour hides all below it, one that is not opaque hides nothing, and two hide together.
+        output = Output(0, 0, 0, 4, 2, 1, 0)
+        veil = shown(content_of(Picture(4, 2, [VEIL] * 8)), 0, 0)
+        clear = shown(content_of(Picture(4, 2, [0] * 8)), 0, 0)
+        whole = (0, 0, 4, 2)
+        for layers in [
+            [plain("frame", RED, whole), veil, plain("inside", BLUE, whole)],
+            [plain("frame", RED, whole), veil, plain("inside", BLUE, (0, 0, 3, 2))],
+            [plain("frame", RED, whole), veil, plain("inside", BLUE, (1, 0, 3, 1), (0, 1, 2, 1))],
+            [plain("frame", RED, whole), veil, plain("inside", VEIL, whole)],
+            [plain("frame", RED, whole), plain("inside", 0xFEFFFFFF, whole)],
+            [veil, plain("frame", RED, (0, 0, 2, 2)), plain("inside", BLUE, (2, 0, 2, 2)), veil],
+            [plain("frame", RED, whole), clear], [plain("frame", RED, whole), clear, plain("inside", BLUE, (0, 0, 4, 1))],
+            [plain("frame", RED, whole), plain("inside", BLUE, (0, 0, 4, 1)), plain("frame", RED, whole), veil],
+            [plain("frame", RED, (-9, -9, 99, 99)), plain("inside", BLUE, (-1, -1, 9, 9)), veil],
+        ]:
+            self.assertEqual(self.compose(output, layers), expected_pixels(output, layers))
+
     def test_no_squares(self):
         output = Output(0, 10, 20, 3, 2, 1, 0)
         self.assertEqual(self.compose(output, [plain("border", RED)]), [DESK] * 6)

@@ -19,6 +19,8 @@ def united(a, b):
 def united_all(regions):
     """Return the region of the squares of any of some regions."""
     bands = sorted([band for region in regions for band in region])
+    if not bands:
+        return []
     edges = sorted(set([band[0] for band in bands] + [band[1] for band in bands]))
     united_bands = []
     begun = []

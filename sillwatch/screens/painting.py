@@ -6,7 +6,7 @@ from sillwatch.screens.boxes import boxes_around
 from sillwatch.screens.colours import DESK, OPAQUE, over
 from sillwatch.screens.layers import same_layer
 from sillwatch.screens.samples import Samples, sample_places
-from sillwatch.windows.rectangles import has_squares, overlap
+from sillwatch.windows.rectangles import has_all_of, has_squares, overlap
 
 
 def composed(output, layers):
@@ -45,15 +45,29 @@ def differing(before, after):
 def _make_box(output, made, layers, box):
     """Make all pixels of a rectangle of units anew."""
     _paint_colour(output, made, box, DESK)
-    for layer in layers:
+    for layer, seen in _parts_in(layers, box):
+        if layer.what == "surface":
+            _paint_surface(output, made, seen, layer)
+        else:
+            _paint_colour(output, made, seen, layer.colour)
+
+
+def _parts_in(layers, box):
+    """Return rows (layer, rectangle) of the parts of layers in a box, from the lowest.
+
+    Parts of which nothing can be seen, because all of them lies below one opaque rectangle, are left out.
+    """
+    parts = []
+    covers = []
+    for layer in reversed(layers):
         for rectangle in rectangles(layer.region):
-            seen = overlap(rectangle, box)
-            if not has_squares(seen):
-                continue
-            if layer.what == "surface":
-                _paint_surface(output, made, seen, layer)
-            else:
-                _paint_colour(output, made, seen, layer.colour)
+            part = overlap(rectangle, box)
+            if has_squares(part) and not any([has_all_of(cover, part) for cover in covers]):
+                parts.append((layer, part))
+                if layer.what != "surface" and layer.colour >= OPAQUE:
+                    covers.append(part)
+    parts.reverse()
+    return parts
 
 
 def _paint_colour(output, made, rectangle, colour):

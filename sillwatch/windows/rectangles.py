@@ -19,6 +19,13 @@ def has_squares(rectangle):
     return rectangle[2] > 0 and rectangle[3] > 0
 
 
+def has_all_of(rectangle, part):
+    """Tell whether a rectangle has all squares of another one."""
+    if part[0] < rectangle[0] or part[1] < rectangle[1]:
+        return False
+    return part[0] + part[2] <= rectangle[0] + rectangle[2] and part[1] + part[3] <= rectangle[1] + rectangle[3]
+
+
 def has_point(rectangle, x, y):
     """Tell whether a place lies in a rectangle."""
     return rectangle[0] <= x < rectangle[0] + rectangle[2] and rectangle[1] <= y < rectangle[1] + rectangle[3]
