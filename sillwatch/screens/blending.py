@@ -2,7 +2,6 @@
 
 from sillwatch.screens.colours import OPAQUE, over
 
-
 MOST_KNOWN = 256
 
 
